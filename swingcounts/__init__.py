@@ -1,0 +1,1 @@
+"""Swings counted: the calls are answered by swingcounts.pack.answers."""
