@@ -30,11 +30,32 @@ def would(x):
     return [9, x]
 
 
+def most(n):
+    return [10, n]
+
+
+def count(a, b):
+    return [11, a, b]
+
+
+def again(n):
+    return [13, n]
+
+
 LEFT = [3]
 DONE = [4]
 HALVES = [5]
 DAMAGE = [7]
 LIFE = [8]
+GREATEST = [12]
+TIMES = [14]
+UNDO = [15]
+CLEAR = [16]
+CLOSE = [17]
+STATE = [18]
+
+# All that can be seen of an object but how many steps can be taken back.
+LOOKS = (LEFT, DONE, HALVES, DAMAGE, LIFE, GREATEST, TIMES, would(0), would(700), most(50), count(7, 200), harm(50))
 
 
 def parted(given):

@@ -3,14 +3,27 @@
 import unittest
 
 from swingcounts.pack import answers
-from tests.helper import DAMAGE, DONE, HALVES, LEFT, LIFE, filled, harm, read, reads, start, would
+from tests.helper import (
+    CLEAR, CLOSE, DAMAGE, DONE, GREATEST, HALVES, LEFT, LIFE, STATE, TIMES, UNDO, again, count, filled, harm, most,
+    read, reads, start, would)
 
 
 def long_line():
     calls = [read(3), start(0), *filled(500), reads(5, 900, 100, 800, 200), read(1001), reads(), harm(50),
-             harm(1001), would(850), would(1001), LEFT, DONE, HALVES, DAMAGE, LIFE, start(7, [2, 3], [1, 0]),
-             start(7, [2, 3], [0, 1]), reads(4, 8, 4, 8), LEFT, DONE, HALVES, DAMAGE, LIFE]
+             harm(1001), would(850), would(1001), LEFT, DONE, HALVES, DAMAGE, LIFE, again(3), CLOSE, again(0), TIMES,
+             UNDO, UNDO, most(3), count(4, 900), count(4, 3), GREATEST, STATE, CLEAR, UNDO, CLOSE, GREATEST, TIMES,
+             start(7, [2, 3], [1, 0]), start(7, [2, 3], [0, 1]), reads(4, 8, 4, 8), LEFT, DONE, HALVES, DAMAGE, LIFE]
     return [number for call in calls for number in call]
+
+
+class NeverChanged(list):
+    """A list that fails when it is changed, be it for a while."""
+
+    def refuse(self, *told):
+        raise AssertionError("what is handed in was changed")
+
+    append = extend = insert = pop = remove = reverse = sort = clear = refuse
+    __setitem__ = __delitem__ = __iadd__ = __imul__ = refuse
 
 
 class Form(unittest.TestCase):
@@ -28,6 +41,33 @@ class Form(unittest.TestCase):
             1, 5,
             2, 1, 195,
             2, 10, 0,
+        ])
+
+    def test_numbers_of_the_later_calls_as_they_stand(self):
+        calls = [18, 0, 100, 2, 10, 20, 2, 1, 5, 2, 4, 30, 50, 45, 60, 10, 5, 11, 5, 30, 12, 14, 13, 2, 17, 18, 15, 15,
+                 18, 16, 12, 14, 13, 1, 13, 0, 17, 15, 11, 2, 1]
+        self.assertEqual(answers(calls), [
+            1, -11,
+            1, 0,
+            1, 1,
+            1, 1,
+            2, 1, 1,
+            3, 30, 60, 30,
+            2, 15, 25,
+            1, 2,
+            1, 1,
+            4, 8, 1, 3, 3,
+            1, 2,
+            1, 1,
+            4, 4, 2, 1, 1,
+            1, 1,
+            1, -33,
+            1, -33,
+            1, -6,
+            1, -22,
+            1, -6,
+            1, -6,
+            1, -22,
         ])
 
     def test_refused_calls_are_gone_over_whole(self):
@@ -52,6 +92,9 @@ class NothingKept(unittest.TestCase):
         calls = long_line()
         answers(calls)
         self.assertEqual(calls, long_line())
+
+    def test_what_is_handed_in_is_not_changed_for_a_while_either(self):
+        self.assertEqual(answers(NeverChanged(long_line())), answers(long_line()))
 
     def test_alike_twice(self):
         calls = long_line()

@@ -2,10 +2,13 @@
 
 import unittest
 
-from tests.helper import (DAMAGE, DONE, HALVES, LEFT, LIFE, ask, harm, last, read, reads, start, would)
+from tests.helper import (
+    CLEAR, CLOSE, DAMAGE, DONE, GREATEST, HALVES, LEFT, LIFE, LOOKS, STATE, TIMES, UNDO, again, ask, count, harm, last,
+    most, read, reads, start, would)
 
-OTHERS = (read(5), reads(5, 6), LEFT, DONE, HALVES, harm(5), DAMAGE, LIFE, would(5))
-WRONG_OTHERS = (read(1001), reads(), reads(1001), harm(1001), would(1001))
+OTHERS = (read(5), reads(5, 6), LEFT, DONE, HALVES, harm(5), DAMAGE, LIFE, would(5), most(5), count(5, 6), GREATEST,
+          again(5), TIMES, UNDO, CLEAR, CLOSE, STATE)
+WRONG_OTHERS = (read(1001), reads(), reads(1001), harm(1001), would(1001), count(6, 5), again(0), again(21))
 
 REFUSED = {
     "limit 0": start(limit=0),
@@ -79,24 +82,25 @@ class Start(unittest.TestCase):
                 self.assertEqual(ask(call, LEFT), [[0], [0]])
 
     def test_refused_leaves_all_as_it_was(self):
-        looks = (LEFT, DONE, HALVES, DAMAGE, LIFE, harm(49), harm(50), would(600))
-        begun = (start(), reads(0, 300, 100, 200, 150, 900, 400))
-        before = ask(*begun, *looks)[2:]
+        looks = (*LOOKS, STATE, harm(49), UNDO, *LOOKS, STATE)
+        begun = (start(), reads(0, 300, 100), CLOSE, reads(200, 150, 900, 400))
+        before = ask(*begun, *looks)[4:]
         for name, call in REFUSED.items():
             with self.subTest(name):
-                self.assertEqual(ask(*begun, call, *looks)[2:], [[-22]] + before)
+                self.assertEqual(ask(*begun, call, *looks)[4:], [[-22]] + before)
 
     def test_once_more_leaves_nothing(self):
-        begun = (start(), reads(0, 300, 100, 200, 150, 900, 400))
-        found = ask(*begun, start(7, [3], [2]), LEFT, DONE, HALVES, DAMAGE, LIFE, harm(2), harm(3), harm(1000))
-        self.assertEqual(found[2:], [[0], [0], [0], [0], [0], [1, 14], [0], [2], [2]])
+        begun = (start(), reads(0, 300, 100, 200, 150, 900, 400), CLOSE, again(3))
+        found = ask(*begun, start(7, [3], [2]), LEFT, DONE, HALVES, DAMAGE, LIFE, harm(2), harm(3), harm(1000),
+                    most(0), count(0, 1000), GREATEST, TIMES, STATE, again(1), CLOSE, UNDO, CLEAR)
+        self.assertEqual(found[4:], [[0], [0], [0], [0], [0], [1, 14], [0], [2], [2],
+                                     [0], [0, 0], [-33], [-33], [0, 0, 0, 0], [-6], [-6], [-6], [0]])
 
     def test_once_more_lets_readings_come_as_to_a_new_one(self):
         readings = reads(5, 105, 55, 105, 0)
-        looks = (LEFT, DONE, HALVES, DAMAGE, LIFE)
-        new = ask(start(), readings, *looks)
-        old = ask(start(3, [1], [9]), reads(0, 1000, 0, 1000, 7), start(), readings, *looks)
-        self.assertEqual(old[2:], new)
+        new = ask(start(), readings, *LOOKS, STATE, UNDO, UNDO)
+        old = ask(start(3, [1], [9]), reads(0, 1000, 0, 1000, 7), CLOSE, start(), readings, *LOOKS, STATE, UNDO, UNDO)
+        self.assertEqual(old[3:], new)
 
     def test_limit_is_kept(self):
         self.assertEqual(last(start(limit=1), LIFE), [1, 2])
